@@ -1,0 +1,1 @@
+"""Ahead sums: columns made of sums over the rows ahead and behind."""

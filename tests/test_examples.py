@@ -1,0 +1,49 @@
+"""The examples of the document for the files that have landed, just as they stand there."""
+
+import doctest
+import unittest
+
+EXAMPLES = r'''
+>>> from aheadsums.ratios import Ratio
+>>> [Ratio(4, -6), str(Ratio(1, 2) + 3), Ratio(1, 3).is_below(Ratio(2, 5))]
+[Ratio(-2, 3), '7/2', True]
+>>> from aheadsums.tables import Table, exchanged, joined, piece, turned, with_row, without_row
+>>> short = Table(1, [[2], [Ratio(1, 2)], [3]])
+>>> [short.columns, short.height, [str(row[0]) for row in turned(short).rows()], piece(short, 1, 1) == Table(1, []), joined(short, piece(short, 0, 1)).height, with_row(without_row(short, 0), 0, [2]) == short, str(exchanged(short, 1).rows()[2][0])]
+[1, 3, ['3', '1/2', '2'], True, 4, True, '1/2']
+>>> from aheadsums.programs import Program, all_results, mirrored, put_into, results, total
+>>> square = Program(1, [("column", 0), ("ahead", 0), ("times", 1, 1)])
+>>> [[str(number) for number in results(square, short)], [str(number) for number in all_results(mirrored(square), short)[1]], str(total(square, short)), results(square, Table(1, []))]
+[['0', '4', '25/4'], ['7/2', '3', '0'], '41/4', []]
+>>> [put_into(square, 0, [Program(0, [("told", 1)])]).steps() == [("told", Ratio(1)), ("ahead", 0), ("times", 1, 1)], put_into(Program(1, [("column", 0)]), 1, [square]).steps()[3:] == [("told", Ratio(0)), ("sum", 2, 3)]]
+[True, True]
+>>> from aheadsums.tables import Table
+>>> from aheadsums.words import cuts, is_letter, is_word, letter_worth, multiplied, sums_ahead, sums_behind, turned_word, word_sum
+>>> few = Table(1, [[2], [Ratio(1, 2)], [3]])
+>>> [str(word_sum(few, ((1,), (1,)))), str(word_sum(few, ())), [str(one) for one in sums_ahead(few, ((1,),))], [str(one) for one in sums_behind(few, ((1,),))], str(letter_worth(2, (2, 0), [3, 0]))]
+['17/2', '1', ['0', '2', '5/2', '11/2'], ['11/2', '7/2', '3', '0'], '9']
+>>> [multiplied(2, (1, 0), (8, 2)), cuts(1, ((1,), (2,))), turned_word(0, ((), ())), is_letter(0, ()), is_letter(2, (1,)), is_word(1, ()), is_word(1, [(1,)])]
+[(9, 2), [((), ((1,), (2,))), (((1,),), ((2,),)), (((1,), (2,)), ())], ((), ()), True, False, True, False]
+>>> from aheadsums.lacings import how_many, lacings
+>>> [how_many(1, 1), how_many(2, 1), how_many(0, 8), how_many(8, 8), lacings(1, ((1,),), ((1,),)), lacings(0, ((),), ((),)), lacings(1, (), ((3,),))]
+[3, 5, 1, 265729, [(((1,), (1,)), 2), (((2,),), 1)], [(((),), 1), (((), ()), 2)], [(((3,),), 1)]]
+>>> from aheadsums.tallies import Tally, tally_plus, tally_product, tally_times, tally_turned, tally_worth
+>>> few, x = Table(1, [[2], [Ratio(1, 2)], [3]]), Tally(1, [(((1,),), 1)])
+>>> [(word, str(factor)) for word, factor in tally_product(x, x).parts()]
+[(((1,), (1,)), '2'), (((2,),), '1')]
+>>> [str(tally_worth(x, few)), str(tally_worth(tally_product(x, x), few)), tally_plus(x, tally_times(x, -1)).length, tally_turned(Tally(1, [(((1,), (0,)), 1)])).parts()[0][0], Tally(0, [((), 1), ((), Ratio(1, 2))]).parts() == [((), Ratio(3, 2))]]
+['11/2', '121/4', -1, ((0,), (1,)), True]
+'''
+
+
+class ExamplesTest(unittest.TestCase):
+    def test_each_example(self):
+        told = doctest.DocTestParser().get_doctest(EXAMPLES, {}, "DOC.md", "DOC.md", 0)
+        lines = []
+        ran = doctest.DocTestRunner(verbose=False).run(told, out=lines.append)
+        self.assertEqual(ran.failed, 0, "".join(lines))
+        self.assertEqual(ran.attempted, EXAMPLES.count(">>> "))
+
+
+if __name__ == "__main__":
+    unittest.main()

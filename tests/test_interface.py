@@ -1,0 +1,73 @@
+"""The interface of the document: names, the files that define them, parameters."""
+
+import importlib
+import inspect
+import unittest
+
+FUNCTIONS = {
+    "basics": {"is_integer": "value", "is_count": "value"},
+    "ratios": {"is_number": "value"},
+    "tables": {"joined": "table other", "turned": "table", "piece": "table low high", "with_row": "table position row",
+               "without_row": "table position", "exchanged": "table position"},
+    "programs": {"results": "program table", "all_results": "program table", "total": "program table",
+                 "mirrored": "program", "put_into": "program columns others"},
+    "words": {"is_letter": "columns value", "is_word": "columns value", "multiplied": "columns letter other",
+              "letter_worth": "columns letter row", "word_sum": "table word", "sums_ahead": "table word",
+              "sums_behind": "table word", "cuts": "columns word", "turned_word": "columns word"},
+    "lacings": {"how_many": "many other", "lacings": "columns word other"},
+    "tallies": {"tally_worth": "tally table", "tally_plus": "tally other", "tally_product": "tally other",
+                "tally_times": "tally number", "tally_turned": "tally"},
+}
+
+CLASSES = {
+    "ratios": {"Ratio": ("top bottom", {"over": "other", "size": "", "is_below": "other", "is_at_most": "other",
+                                        "total": "numbers"}, "top bottom sign is_whole",
+                         "__add__ __radd__ __sub__ __rsub__ __mul__ __rmul__ __neg__ __eq__ __str__ __repr__")},
+    "tables": {"Table": ("columns rows", {"rows": ""}, "columns height", "__eq__")},
+    "programs": {"Program": ("columns steps", {"steps": ""}, "columns", "__eq__")},
+    "tallies": {"Tally": ("columns parts", {"parts": ""}, "columns length", "__eq__")},
+}
+
+
+def file_of(name):
+    """The file of the package with this name."""
+    return importlib.import_module(f"aheadsums.{name}")
+
+
+def parameters(function):
+    """The names of the parameters, with blanks between, without an object's own one."""
+    return " ".join([name for name in inspect.signature(function).parameters if name != "self"])
+
+
+class InterfaceTest(unittest.TestCase):
+    def test_functions(self):
+        for name, functions in FUNCTIONS.items():
+            for function, told in functions.items():
+                found = getattr(file_of(name), function)
+                self.assertTrue(inspect.isfunction(found))
+                self.assertEqual(found.__module__, f"aheadsums.{name}")
+                self.assertEqual(parameters(found), told)
+
+    def test_classes(self):
+        for name, classes in CLASSES.items():
+            for made, (told, methods, properties, operators) in classes.items():
+                found = getattr(file_of(name), made)
+                self.assertTrue(inspect.isclass(found))
+                self.assertEqual(found.__module__, f"aheadsums.{name}")
+                self.assertEqual(parameters(found), told)
+                for method, names in methods.items():
+                    self.assertIn(method, vars(found))
+                    self.assertEqual(parameters(getattr(found, method)), names)
+                for one in (properties + " " + operators).split():
+                    self.assertIn(one, vars(found))
+
+    def test_defaults(self):
+        made = inspect.signature(file_of("ratios").Ratio).parameters
+        self.assertEqual([made["top"].default, made["bottom"].default], [inspect.Parameter.empty, 1])
+
+    def test_total_is_a_class_method(self):
+        self.assertIsInstance(vars(file_of("ratios").Ratio)["total"], classmethod)
+
+
+if __name__ == "__main__":
+    unittest.main()

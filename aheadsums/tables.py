@@ -42,6 +42,16 @@ def are_rows(columns, value):
     return all([are_numbers(row, columns) for row in value])
 
 
+def is_table_for(columns, value):
+    """Whether any value is a Table of so many columns."""
+    return isinstance(value, Table) and value.columns == columns
+
+
+def is_place(table, value):
+    """Whether any value is the position of a row of the table."""
+    return is_count(value) and value < table.height
+
+
 def need_table(table):
     """InvalidTable unless a Table."""
     if not isinstance(table, Table):

@@ -5,7 +5,7 @@ from aheadsums.errors import InvalidParts, InvalidTally, TooMany
 from aheadsums.lacings import how_many, laced
 from aheadsums.ratios import Ratio, is_number, need_number
 from aheadsums.tables import need_table
-from aheadsums.words import MOST_LETTERS, MOST_POWER, is_word, sums_of, worths_at
+from aheadsums.words import MOST_LETTERS, MOST_POWER, is_word, sums_by_word, worths_by_letter
 
 MOST_PARTS = 400
 MOST_WAYS = 4000
@@ -16,7 +16,7 @@ class Tally:
 
     def __init__(self, columns, parts):
         need_columns(columns)
-        if not _are_parts(columns, parts):
+        if not are_parts(columns, parts, is_word):
             raise InvalidParts(parts)
         self._columns = columns
         self._parts = told_parts(parts)
@@ -39,16 +39,17 @@ class Tally:
         return isinstance(other, Tally) and self._columns == other._columns and self._parts == other._parts
 
 
-def _are_parts(columns, value):
+def are_parts(columns, value, is_told):
+    """Whether any value is a list of parts: tuples of what is_told lets, a word or the like, and a NUMBER."""
     if not is_list(value) or len(value) > MOST_PARTS:
         return False
-    return all([_is_part(columns, part) for part in value])
+    return all([_is_part(columns, part, is_told) for part in value])
 
 
-def _is_part(columns, value):
+def _is_part(columns, value, is_told):
     if not isinstance(value, tuple) or len(value) != 2:
         return False
-    return is_word(columns, value[0]) and is_number(value[1])
+    return is_told(columns, value[0]) and is_number(value[1])
 
 
 def told_parts(parts):
@@ -82,17 +83,9 @@ def tally_worth(tally, table):
     need_tally(tally)
     need_table(table)
     need_like_columns(tally, table)
-    rows = table.rows()
-    # Words share many of their letters, so what each one comes to is worked out once.
-    known = {}
-    worth = Ratio(0)
-    for word, factor in tally.parts():
-        for letter in word:
-            if letter not in known:
-                known[letter] = worths_at(letter, rows)
-        sums = sums_of([known[each] for each in word], table.height)
-        worth = worth + factor * sums[-1]
-    return worth
+    words = [word for word, factor in tally.parts()]
+    sums = sums_by_word(words, worths_by_letter(words, table.rows()), table.height)
+    return Ratio.total([factor * sums[word][-1] for word, factor in tally.parts()])
 
 
 def tally_plus(tally, other):

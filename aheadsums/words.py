@@ -12,17 +12,27 @@ MOST_POWER = 8
 def is_letter(columns, value):
     """Whether any value is a letter for so many columns."""
     need_columns(columns)
+    return is_letter_to(columns, value, MOST_POWER)
+
+
+def is_letter_to(columns, value, most):
+    """Whether any value is a letter for so many columns, with powers that are at most this one."""
     if not isinstance(value, tuple) or len(value) != columns:
         return False
-    return all([is_count_to(power, MOST_POWER) for power in value])
+    return all([is_count_to(power, most) for power in value])
 
 
 def is_word(columns, value):
     """Whether any value is a word of letters for so many columns."""
     need_columns(columns)
+    return is_word_to(columns, value, MOST_POWER)
+
+
+def is_word_to(columns, value, most):
+    """Whether any value is a word for so many columns, with powers that are at most this one."""
     if not isinstance(value, tuple) or len(value) > MOST_LETTERS:
         return False
-    return all([is_letter(columns, letter) for letter in value])
+    return all([is_letter_to(columns, letter, most) for letter in value])
 
 
 def need_letter(columns, letter):
@@ -92,15 +102,40 @@ def worths_at(letter, rows):
     return [worth_at(letter, row) for row in rows]
 
 
+def worths_by_letter(words, rows):
+    """A dict of what each letter of some words comes to at each of some rows of Ratios."""
+    known = {}
+    for word in words:
+        for letter in word:
+            if letter not in known:
+                known[letter] = worths_at(letter, rows)
+    return known
+
+
 def sums_of(worths, height):
     """The sums ahead of a word, out of what each of its letters comes to at each of so many rows."""
     sums = [Ratio(1) for _ in range(height + 1)]
     for worth in worths:
-        longer = [Ratio(0)]
-        for at in range(height):
-            longer.append(longer[at] + sums[at] * worth[at])
-        sums = longer
+        sums = longer_sums(sums, worth)
     return sums
+
+
+def longer_sums(sums, worth):
+    """The sums ahead of a word with a letter behind it, out of its own sums and the letter's worth at each row."""
+    longer = [Ratio(0)]
+    for at, number in enumerate(worth):
+        longer.append(longer[at] + sums[at] * number)
+    return longer
+
+
+def sums_by_word(words, known, height):
+    """A dict of the sums ahead of each of some words over so many rows, for whose letters the worths are known."""
+    found = {(): [Ratio(1) for _ in range(height + 1)]}
+    for word in words:
+        for at, letter in enumerate(word):
+            if word[:at + 1] not in found:
+                found[word[:at + 1]] = longer_sums(found[word[:at]], known[letter])
+    return found
 
 
 def cuts(columns, word):

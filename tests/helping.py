@@ -1,14 +1,16 @@
-"""What the test files share: a test case that knows errors, odd values, and sums worked out by themselves."""
+"""What the test files share: a test case that knows errors, odd values, and what is worked out by plain rules."""
 
 import copy
 import unittest
 from decimal import Decimal
 from fractions import Fraction
-from itertools import combinations
+from itertools import combinations, product
 
 from aheadsums.errors import TooMany
+from aheadsums.forms import Form
 from aheadsums.ratios import Ratio
 from aheadsums.tables import Table
+from aheadsums.tallies import Tally
 
 
 class LikeAll:
@@ -127,6 +129,131 @@ def sum_over_choices(word, rows):
             worth *= letter_at(letter, row)
         whole += worth
     return whole
+
+
+def column_of(steps, at, rows):
+    """What the step at a position makes of rows of Fractions, straight from the definition."""
+    word, parts = steps[at][0], steps[at][1:]
+    if word == "column":
+        return [row[parts[0]] for row in rows]
+    if word == "told":
+        return [fraction(parts[0]) for _ in rows]
+    made = [column_of(steps, part, rows) for part in parts]
+    if word == "ahead":
+        return [sum(made[0][:k], Fraction(0)) for k in range(len(rows))]
+    if word == "behind":
+        return [sum(made[0][k + 1:], Fraction(0)) for k in range(len(rows))]
+    if word == "sum":
+        return [one + other for one, other in zip(*made)]
+    if word == "less":
+        return [one - other for one, other in zip(*made)]
+    return [one * other for one, other in zip(*made)]
+
+
+def some_steps(chance, columns, many):
+    """Steps of all kinds, each of which takes columns of steps not far ahead of it."""
+    steps = []
+    for at in range(many):
+        words = ["told"] + ["column"] * (2 if columns else 0)
+        if at:
+            words += ["sum", "less", "times", "ahead", "behind"]
+        word = chance.choice(words)
+        if word == "column":
+            steps.append((word, chance.randrange(columns)))
+        elif word == "told":
+            steps.append((word, chance.choice([0, 1, -2, Ratio(1, 2), Ratio(-5, 3), Ratio(4)])))
+        elif word in ("ahead", "behind"):
+            steps.append((word, chance.randrange(max(0, at - 4), at)))
+        else:
+            steps.append((word, chance.randrange(max(0, at - 4), at), chance.randrange(at)))
+    return steps
+
+
+def some_table(chance, columns, height):
+    """A table of small numbers of both kinds."""
+    numbers = [0, 1, -1, 2, 3, Ratio(1, 2), Ratio(-2, 3)]
+    return Table(columns, [[chance.choice(numbers) for _ in range(columns)] for _ in range(height)])
+
+
+def no_tallies():
+    """Values that are no Tally."""
+    return odd_values() + [0, 1, Ratio(1), [], [((), 1)], (), (1, []), Table(1, [[2]])]
+
+
+def no_forms():
+    """Values that are no Form."""
+    return no_tallies() + [[(((), (1,), ()), 1)], Tally(1, []), Tally(1, [((), 1)])]
+
+
+def letters_of(columns, powers):
+    """All letters with such powers."""
+    return [letter for letter in product(powers, repeat=columns)]
+
+
+def words_to(columns, letters, power):
+    """All words of at most so many letters, with powers that are at most so great."""
+    return [word for many in range(letters + 1) for word in product(letters_of(columns, range(power + 1)), repeat=many)]
+
+
+def terms_to(columns, letters, power):
+    """All terms of at most so many letters, with powers that are at most so great."""
+    return [(word[:at], word[at], word[at + 1:]) for word in words_to(columns, letters, power)
+            for at in range(len(word))]
+
+
+def all_tables(columns, height, numbers):
+    """All tables of so many rows of these numbers."""
+    return [Table(columns, rows) for rows in product(product(numbers, repeat=columns), repeat=height)]
+
+
+def some_word(chance, columns, many, power=2):
+    """A word of so many letters."""
+    return tuple(tuple(chance.randrange(power + 1) for _ in range(columns)) for _ in range(many))
+
+
+def some_term(chance, columns, many, power=2):
+    """A term of so many letters, the own one counted."""
+    word, at = some_word(chance, columns, many, power), chance.randrange(many)
+    return word[:at], word[at], word[at + 1:]
+
+
+def some_factor(chance):
+    return chance.choice([1, -1, 2, Ratio(1, 2), Ratio(-5, 3), 0])
+
+
+def some_tally(chance, columns, longest):
+    """A tally of a few words, of which some may be told twice."""
+    return Tally(columns, [(some_word(chance, columns, chance.randrange(longest + 1)), some_factor(chance))
+                           for _ in range(chance.randrange(5))])
+
+
+def some_form(chance, columns, longest):
+    """A form of a few terms, of which some may be told twice."""
+    return Form(columns, [(some_term(chance, columns, chance.randrange(1, longest + 1)), some_factor(chance))
+                          for _ in range(chance.randrange(5))])
+
+
+def worth_of(tally, table):
+    """What a tally comes to, out of choices of rows."""
+    rows = rows_of(table)
+    return sum([fraction(factor) * sum_over_choices(word, rows) for word, factor in tally.parts()], Fraction(0))
+
+
+def term_at(term, rows, at):
+    """What a term comes to at a row of rows of Fractions, out of choices of rows."""
+    left, own, right = term
+    return sum_over_choices(left, rows[:at]) * letter_at(own, rows[at]) * sum_over_choices(right, rows[at + 1:])
+
+
+def form_at(form, table, at):
+    """What a form comes to at a row, out of choices of rows."""
+    rows = rows_of(table)
+    return sum([fraction(factor) * term_at(term, rows, at) for term, factor in form.parts()], Fraction(0))
+
+
+def worths_of(form, table):
+    """The list of what a form comes to at each row, out of choices of rows."""
+    return [form_at(form, table, at) for at in range(table.height)]
 
 
 class Case(unittest.TestCase):

@@ -33,6 +33,37 @@ EXAMPLES = r'''
 [(((1,), (1,)), '2'), (((2,),), '1')]
 >>> [str(tally_worth(x, few)), str(tally_worth(tally_product(x, x), few)), tally_plus(x, tally_times(x, -1)).length, tally_turned(Tally(1, [(((1,), (0,)), 1)])).parts()[0][0], Tally(0, [((), 1), ((), Ratio(1, 2))]).parts() == [((), Ratio(3, 2))]]
 ['11/2', '121/4', -1, ((0,), (1,)), True]
+>>> from aheadsums.forms import Form, ahead_of, behind_of, form_plus, form_product, form_times, form_total, form_turned, form_worths
+>>> own, late = Form(1, [(((), (1,), ()), 1)]), Form(1, [(((), (0,), ((1,),)), 1)])
+>>> [behind_of(own) == late, form_turned(late) == ahead_of(own), [str(one) for one in form_worths(late, few)], [term for term, factor in ahead_of(late).parts()], ahead_of(late).length]
+[True, True, ['7/2', '3', '0'], [(((0,),), (0,), ((1,),)), (((0,),), (1,), ()), (((0,), (1,)), (0,), ())], 3]
+>>> [str(tally_worth(form_total(form_product(own, late)), few)), form_product(own, own).parts()[0][0], form_plus(late, form_times(late, -1)).length]
+['17/2', ((), (2,), ()), 0]
+>>> from aheadsums.forms import Form
+>>> from aheadsums.making import first_alike, form_of, form_put_into, program_of
+>>> square = Program(1, [("column", 0), ("ahead", 0), ("times", 1, 1)])
+>>> [(term, str(number)) for term, number in form_of(square).parts()]
+[((((1,), (1,)), (0,), ()), '2'), ((((2,),), (0,), ()), '1')]
+>>> own, rank = Form(1, [(((), (1,), ()), 1)]), Form(1, [((((0,),), (0,), ()), 1)])
+>>> [form_of(program_of(form_of(square))) == form_of(square), form_put_into(rank, 1, [own]) == rank, first_alike(Program(1, [("column", 0), ("ahead", 0), ("sum", 0, 1), ("sum", 1, 0), ("less", 2, 1)])), [(term, str(number)) for term, number in form_put_into(form_of(square), 0, [Form(0, [(((), (), ()), 3)])]).parts()]]
+[True, True, [0, 1, 2, 2, 0], [((((),), (), ()), '9'), ((((), ()), (), ()), '18')]]
+>>> from aheadsums.tables import Table
+>>> from aheadsums.telling import asked, fits, told_back
+>>> [asked(1, 1, 1) == [Table(1, [[0]]), Table(1, [[1]])], len(asked(1, 2, 1)), told_back(0, 2, 0, [[0], [0, 1]]) == Form(0, [((((),), (), ()), 1)]), told_back(1, 1, 1, [[2], [5]]) == Form(1, [(((), (0,), ()), 2), (((), (1,), ()), 3)]), fits(form_of(square), 2, 2), fits(form_of(square), 3, 2), fits(rank, 2, 0)]
+[True, 6, True, True, False, True, True]
+>>> from aheadsums.alikes import is_parting, least_unlike, parting, parting_rows
+>>> from aheadsums.forms import Form
+>>> from aheadsums.tables import Table
+>>> own, both = Form(1, [(((), (1,), ()), 1)]), Form(1, [(((), (1,), ()), 1), ((((1,),), (0,), ()), 1)])
+>>> [parting_rows(own, both), least_unlike(own, both), parting_rows(both, both), parting(own, own), least_unlike(own, own)]
+[2, [(((1,),), (0,), ())], None, None, []]
+>>> [is_parting(own, both, parting(own, both)), parting(own, both)[0].height, is_parting(own, both, (Table(1, [[1], [0]]), 1)), is_parting(own, both, (Table(1, [[1], [0]]), 0)), is_parting(own, both, [Table(1, [[1], [0]]), 1])]
+[True, 2, True, False, False]
+>>> from aheadsums.hangs import change, hangs_on, is_change, is_moving, moving, stays
+>>> [stays(both, "behind"), stays(both, "ahead"), moving(both, "behind"), is_moving(both, "ahead", moving(both, "ahead")), is_moving(both, "ahead", (Table(1, [[0]]), [1], 0)), is_moving(both, "ahead", (Table(1, [[0]]), [0], 0))]
+[True, False, None, True, True, False]
+>>> [hangs_on(both, "ahead", 0), hangs_on(own, "ahead", 0), hangs_on(own, "own", 0), change(own, "behind", 0), is_change(both, "ahead", 0, (Table(1, [[1], [0]]), Table(1, [[2], [0]]), 1)), is_change(both, "ahead", 0, (Table(1, [[1], [0]]), Table(1, [[1], [2]]), 1)), is_change(both, "own", 0, change(both, "own", 0))]
+[True, False, True, None, True, False, True]
 '''
 
 

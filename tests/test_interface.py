@@ -17,6 +17,17 @@ FUNCTIONS = {
     "lacings": {"how_many": "many other", "lacings": "columns word other"},
     "tallies": {"tally_worth": "tally table", "tally_plus": "tally other", "tally_product": "tally other",
                 "tally_times": "tally number", "tally_turned": "tally"},
+    "forms": {"form_worths": "form table", "form_plus": "form other", "form_product": "form other",
+              "form_times": "form number", "form_turned": "form", "ahead_of": "form", "behind_of": "form",
+              "form_total": "form"},
+    "making": {"form_of": "program", "first_alike": "program", "program_of": "form",
+               "form_put_into": "form columns others"},
+    "telling": {"asked": "columns letters power", "told_back": "columns letters power answers",
+                "fits": "form letters power"},
+    "alikes": {"parting_rows": "form other", "least_unlike": "form other", "parting": "form other",
+               "is_parting": "form other value"},
+    "hangs": {"stays": "form side", "moving": "form side", "is_moving": "form side value",
+              "hangs_on": "form where column", "change": "form where column", "is_change": "form where column value"},
 }
 
 CLASSES = {
@@ -26,6 +37,7 @@ CLASSES = {
     "tables": {"Table": ("columns rows", {"rows": ""}, "columns height", "__eq__")},
     "programs": {"Program": ("columns steps", {"steps": ""}, "columns", "__eq__")},
     "tallies": {"Tally": ("columns parts", {"parts": ""}, "columns length", "__eq__")},
+    "forms": {"Form": ("columns parts", {"parts": ""}, "columns length", "__eq__")},
 }
 
 

@@ -8,57 +8,13 @@ from aheadsums.errors import InvalidColumns, InvalidOthers, InvalidProgram, Inva
 from aheadsums.programs import Program, all_results, mirrored, put_into, results, total
 from aheadsums.ratios import Ratio
 from aheadsums.tables import Table, turned
-from tests.helping import (Case, LikeAll, fraction, no_columns, no_counts, no_numbers, no_tables, odd_values,
-                           rows_of)
+from tests.helping import (Case, LikeAll, column_of, no_columns, no_counts, no_numbers, no_tables, odd_values,
+                           rows_of, some_steps, some_table)
 
 ONE = Program(1, [("column", 0)])
 NO_PROGRAMS = odd_values() + [0, 1, Ratio(1), [], [("told", 1)], (), (1, [("told", 1)]), Table(1, [])]
 NO_TABLES = no_tables() + [ONE]
 SHORT = Table(1, [[2], [Ratio(1, 2)], [3]])
-
-
-def column_of(steps, at, rows):
-    """What the step at a position makes of rows of Fractions, straight from the definition."""
-    word, parts = steps[at][0], steps[at][1:]
-    if word == "column":
-        return [row[parts[0]] for row in rows]
-    if word == "told":
-        return [fraction(parts[0]) for _ in rows]
-    made = [column_of(steps, part, rows) for part in parts]
-    if word == "ahead":
-        return [sum(made[0][:k], Fraction(0)) for k in range(len(rows))]
-    if word == "behind":
-        return [sum(made[0][k + 1:], Fraction(0)) for k in range(len(rows))]
-    if word == "sum":
-        return [one + other for one, other in zip(*made)]
-    if word == "less":
-        return [one - other for one, other in zip(*made)]
-    return [one * other for one, other in zip(*made)]
-
-
-def some_steps(chance, columns, many):
-    """Steps of all kinds, each of which takes columns of steps not far ahead of it."""
-    steps = []
-    for at in range(many):
-        words = ["told"] + ["column"] * (2 if columns else 0)
-        if at:
-            words += ["sum", "less", "times", "ahead", "behind"]
-        word = chance.choice(words)
-        if word == "column":
-            steps.append((word, chance.randrange(columns)))
-        elif word == "told":
-            steps.append((word, chance.choice([0, 1, -2, Ratio(1, 2), Ratio(-5, 3), Ratio(4)])))
-        elif word in ("ahead", "behind"):
-            steps.append((word, chance.randrange(max(0, at - 4), at)))
-        else:
-            steps.append((word, chance.randrange(max(0, at - 4), at), chance.randrange(at)))
-    return steps
-
-
-def some_table(chance, columns, height):
-    """A table of small numbers of both kinds."""
-    numbers = [0, 1, -1, 2, 3, Ratio(1, 2), Ratio(-2, 3)]
-    return Table(columns, [[chance.choice(numbers) for _ in range(columns)] for _ in range(height)])
 
 
 def some_pairs():

@@ -9,28 +9,12 @@ from aheadsums.errors import InvalidColumns, InvalidNumber, InvalidParts, Invali
 from aheadsums.ratios import Ratio
 from aheadsums.tables import Table, turned
 from aheadsums.tallies import Tally, tally_plus, tally_product, tally_times, tally_turned, tally_worth
-from tests.helping import (Case, LikeAll, fraction, no_columns, no_numbers, no_tables, no_words, odd_values, rows_of,
-                           sum_over_choices)
+from tests.helping import (Case, LikeAll, fraction, letters_of, no_columns, no_numbers, no_tables, no_tallies, no_words,
+                           odd_values, some_table, some_tally, worth_of)
 
 X = Tally(1, [(((1,),), 1)])
 FEW = Table(1, [[2], [Ratio(1, 2)], [3]])
 FOURS = ((0,),) * 4
-
-
-def no_tallies():
-    """Values that are no Tally."""
-    return odd_values() + [0, 1, Ratio(1), [], [((), 1)], (), (1, []), FEW]
-
-
-def worth_of(tally, table):
-    """What a tally comes to, out of choices of rows."""
-    rows = rows_of(table)
-    return sum([fraction(factor) * sum_over_choices(word, rows) for word, factor in tally.parts()], Fraction(0))
-
-
-def letters_of(columns, powers):
-    """All letters with such powers."""
-    return [letter for letter in product(powers, repeat=columns)]
 
 
 def of_letters(letters, factor=1):
@@ -46,20 +30,6 @@ def many_words(many, ahead=()):
 def of_words(words, factor=1, columns=3):
     """The tally of these words."""
     return Tally(columns, [(word, factor) for word in words])
-
-
-def some_tally(chance, columns, longest):
-    """A tally of a few words, of which some may be told twice."""
-    parts = []
-    for _ in range(chance.randrange(5)):
-        word = tuple(tuple(chance.randrange(3) for _ in range(columns)) for _ in range(chance.randrange(longest + 1)))
-        parts.append((word, chance.choice([1, -1, 2, Ratio(1, 2), Ratio(-5, 3), 0])))
-    return Tally(columns, parts)
-
-
-def some_table(chance, columns, height):
-    numbers = [0, 1, -1, 2, Ratio(1, 2), Ratio(-2, 3)]
-    return Table(columns, [[chance.choice(numbers) for _ in range(columns)] for _ in range(height)])
 
 
 def some_lots():

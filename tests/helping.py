@@ -83,17 +83,17 @@ def no_tables():
     return odd_values() + [0, 1, Ratio(1), [], [[1]], (), (1, [[1]])]
 
 
-def no_letters():
-    """Values that are no letter for one column."""
-    no_powers = no_counts() + [9, 10, 16, 10 ** 30]
+def no_letters(most=8):
+    """Values that are no letter for one column with a power to this one."""
+    no_powers = no_counts() + [most + 1, most + 2, most + 8, 10 ** 30]
     return (odd_values() + [0, 1, Ratio(1), [], [1], [0], (), (1, 1), ((1,),), [(1,)], "(1)"]
             + [(power,) for power in no_powers])
 
 
-def no_words():
-    """Values that are no word for one column."""
+def no_words(most=8):
+    """Values that are no word for one column with powers to this one."""
     return (odd_values() + [0, 1, Ratio(1), [], [(1,)], (1,), (0,), ((1,),) * 9, ((0,),) * 200]
-            + [((1,), value) for value in no_letters()] + [(value,) for value in no_letters()])
+            + [((1,), value) for value in no_letters(most)] + [(value,) for value in no_letters(most)])
 
 
 def fraction(number):

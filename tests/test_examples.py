@@ -64,6 +64,30 @@ EXAMPLES = r'''
 [True, False, None, True, True, False]
 >>> [hangs_on(both, "ahead", 0), hangs_on(own, "ahead", 0), hangs_on(own, "own", 0), change(own, "behind", 0), is_change(both, "ahead", 0, (Table(1, [[1], [0]]), Table(1, [[2], [0]]), 1)), is_change(both, "ahead", 0, (Table(1, [[1], [0]]), Table(1, [[1], [2]]), 1)), is_change(both, "own", 0, change(both, "own", 0))]
 [True, False, True, None, True, False, True]
+>>> from aheadsums.orders import exchange, exchange_at, is_exchange, is_exchange_at, is_free_at, is_order_free, mean_of_orders
+>>> both, alone = Tally(1, [(((0,), (1,)), 1), (((1,), (0,)), 1)]), Tally(1, [(((1,), (0,)), 2)])
+>>> [is_order_free(both), is_order_free(alone), mean_of_orders(alone) == both, exchange(both), is_exchange(alone, (Table(1, [[1], [2]]), 0)), is_exchange(alone, exchange(alone)), exchange(alone)[0].height]
+[True, False, True, None, True, True, 2]
+>>> count, beyond = ((((0,),), (0,), ()), 1), (((), (0,), ((0,),)), 1)
+>>> [is_free_at(Form(1, [count, beyond])), is_free_at(Form(1, [count])), is_exchange_at(Form(1, [count]), (Table(1, [[5], [5]]), 0, 0)), exchange_at(Form(1, [count]))[0].height]
+[True, False, True, 2]
+>>> from aheadsums.totals import in_totals, polynomial_worth
+>>> [in_totals(both) == [([((0,),), ((1,),)], Ratio(1)), ([((1,),)], Ratio(-1))], in_totals(alone), str(polynomial_worth(Table(1, [[1], [2]]), in_totals(both))), str(polynomial_worth(Table(1, []), [([], 7)]))]
+[True, None, '3', '7']
+>>> from aheadsums.lyndons import falling, in_lyndons, is_lyndon, is_told_by
+>>> [is_lyndon(1, ((0,), (1,))), is_lyndon(1, ((1,), (0,))), falling(1, ((1,), (0,), (1,))), falling(1, ())]
+[True, False, [((1,),), ((0,), (1,))], []]
+>>> [in_lyndons(alone) == [([((0,),), ((1,),)], Ratio(2)), ([((0,), (1,))], Ratio(-2)), ([((1,),)], Ratio(-2))], is_told_by(alone, [((0,),), ((1,),)]), is_told_by(both, [((1,),), ((0,),)])]
+[True, False, True]
+>>> from aheadsums.ratios import Ratio
+>>> from aheadsums.readers import Reader, are_alike, is_reader_parting, read, reader_parting
+>>> from aheadsums.tables import Table
+>>> adding = Reader(1, [1, 0], [((0,), [[1, 0], [0, 1]]), ((1,), [[0, 1], [0, 0]])], [((0,), [0, 1])])
+>>> [adding.cells, [str(number) for number in read(adding, Table(1, [[2], [Ratio(1, 2)], [3]]))], adding.last() == [((0,), [Ratio(0), Ratio(1)])], read(Reader(0, [], [], []), Table(0, [[], []])) == [Ratio(0), Ratio(0)]]
+[2, ['0', '2', '5/2'], True, True]
+>>> once = Reader(1, [1], [], [((0,), [1])])
+>>> [are_alike(adding, once), reader_parting(adding, adding), is_reader_parting(adding, once, (Table(1, [[0]]), 0)), is_reader_parting(adding, once, reader_parting(adding, once)), is_reader_parting(adding, once, (Table(1, [[1], [5], [0]]), 2))]
+[False, None, True, True, True]
 '''
 
 

@@ -28,6 +28,13 @@ FUNCTIONS = {
                "is_parting": "form other value"},
     "hangs": {"stays": "form side", "moving": "form side", "is_moving": "form side value",
               "hangs_on": "form where column", "change": "form where column", "is_change": "form where column value"},
+    "orders": {"is_order_free": "tally", "exchange": "tally", "is_exchange": "tally value", "mean_of_orders": "tally",
+               "is_free_at": "form", "exchange_at": "form", "is_exchange_at": "form value"},
+    "totals": {"in_totals": "tally", "polynomial_worth": "table polynomial"},
+    "lyndons": {"is_lyndon": "columns word", "falling": "columns word", "in_lyndons": "tally",
+                "is_told_by": "tally words"},
+    "readers": {"read": "reader table", "are_alike": "reader other", "reader_parting": "reader other",
+                "is_reader_parting": "reader other value"},
 }
 
 CLASSES = {
@@ -38,6 +45,8 @@ CLASSES = {
     "programs": {"Program": ("columns steps", {"steps": ""}, "columns", "__eq__")},
     "tallies": {"Tally": ("columns parts", {"parts": ""}, "columns length", "__eq__")},
     "forms": {"Form": ("columns parts", {"parts": ""}, "columns length", "__eq__")},
+    "readers": {"Reader": ("columns start steps last", {"start": "", "steps": "", "last": ""}, "columns cells",
+                           "__eq__")},
 }
 
 

@@ -33,8 +33,9 @@ class ShowingTest(Case):
         chance = random.Random(7)
         for turn in range(200):
             columns, many = 1 + turn % 3, 1 + turn % 8
-            words = {some_word(chance, columns, many, chance.randrange(9)): True for _ in range(chance.randrange(1, 9))}
-            self.check_rows(columns, [(word, Ratio(chance.choice([1, -1, 3]), chance.randrange(1, 9))) for word in words])
+            words = [some_word(chance, columns, many, chance.randrange(9)) for _ in range(chance.randrange(1, 9))]
+            self.check_rows(columns, [(word, Ratio(chance.choice([1, -1, 3]), chance.randrange(1, 9)))
+                                      for word in sorted(set(words))])
         self.check_rows(0, [(((), ()), Ratio(-1))])
 
     def test_rows_where_many_numbers_are_roots(self):

@@ -86,7 +86,8 @@ class ToldBackTest(Case):
         for columns, letters, power in kept_bounds():
             terms = terms_to(columns, letters, power)
             for many in (0, 1, 3, len(terms)):
-                form = Form(columns, [(term, some_number(chance)) for term in chance.sample(terms, min(many, len(terms)))])
+                used = chance.sample(terms, min(many, len(terms)))
+                form = Form(columns, [(term, some_number(chance)) for term in used])
                 answers = [form_worths(form, table) for table in asked(columns, letters, power)]
                 self.assertEqual(told_back(columns, letters, power, answers), form)
 

@@ -2,7 +2,7 @@
 
 from aheadsums.forms import form_worths, need_two_forms, term_length, times_parts
 from aheadsums.showing import shortest_parts, showing_table
-from aheadsums.tables import is_place, is_table_for
+from aheadsums.tables import is_table_with_place
 from aheadsums.tallies import told_parts
 
 
@@ -33,9 +33,7 @@ def parting(form, other):
 def is_parting(form, other, value):
     """Whether any value is a table, of however many rows, and a row's position at which the results are unlike."""
     need_two_forms(form, other)
-    if not isinstance(value, tuple) or len(value) != 2:
+    if not is_table_with_place(form.columns, value):
         return False
     table, position = value
-    if not is_table_for(form.columns, table) or not is_place(table, position):
-        return False
     return form_worths(form, table)[position] != form_worths(other, table)[position]

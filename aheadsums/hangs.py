@@ -4,7 +4,7 @@ from aheadsums.basics import is_count
 from aheadsums.errors import InvalidColumn, InvalidSide, InvalidWhere
 from aheadsums.forms import form_worths, need_form
 from aheadsums.ratios import are_numbers
-from aheadsums.showing import showing_place
+from aheadsums.showing import showing_place, showing_table
 from aheadsums.tables import MOST_ROWS, Table, is_place, is_table_for, with_row
 
 SIDES = ("ahead", "behind")
@@ -44,7 +44,8 @@ def moving(form, side):
     if not moved:
         return None
     # A shortest term that has a letter at the further row has just one at each of the others.
-    rows, at = showing_place(form.columns, moved)
+    table, at = showing_table(form.columns, moved)
+    rows = table.rows()
     if side == "ahead":
         return Table(form.columns, rows[1:]), rows[0], at - 1
     return Table(form.columns, rows[:-1]), rows[-1], at

@@ -2,7 +2,7 @@
 
 from aheadsums.basics import is_count
 from aheadsums.errors import TooMany
-from aheadsums.forms import form_worths, need_form, times_parts
+from aheadsums.forms import form_worths, need_form
 from aheadsums.lots import how_many_words, lot_of, words_of
 from aheadsums.ratios import Ratio
 from aheadsums.showing import showing_rows

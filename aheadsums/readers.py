@@ -5,7 +5,7 @@ from aheadsums.errors import InvalidLast, InvalidReader, InvalidStart, InvalidSt
 from aheadsums.ratios import Ratio, are_numbers, as_ratio, is_number
 from aheadsums.showing import showing_rows
 from aheadsums.spans import are_noughts, dot, left_over, scaled
-from aheadsums.tables import Table, is_place, is_table_for, need_table
+from aheadsums.tables import Table, is_table_with_place, need_table
 from aheadsums.words import is_letter, worth_at
 
 MOST_CELLS = 12
@@ -250,9 +250,7 @@ def _led(cells, steps, row):
 def is_reader_parting(reader, other, value):
     """Whether any value is a table, and the position of a row at which both tell unlike results."""
     _need_two(reader, other)
-    if not isinstance(value, tuple) or len(value) != 2:
+    if not is_table_with_place(reader.columns, value):
         return False
     table, position = value
-    if not is_table_for(reader.columns, table) or not is_place(table, position):
-        return False
     return read(reader, table)[position] != read(other, table)[position]

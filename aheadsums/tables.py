@@ -52,6 +52,13 @@ def is_place(table, value):
     return is_count(value) and value < table.height
 
 
+def is_table_with_place(columns, value):
+    """Whether any value is a tuple of a Table of so many columns and the position of a row of it."""
+    if not isinstance(value, tuple) or len(value) != 2:
+        return False
+    return is_table_for(columns, value[0]) and is_place(value[0], value[1])
+
+
 def need_table(table):
     """InvalidTable unless a Table."""
     if not isinstance(table, Table):

@@ -14,16 +14,12 @@ MOST_ASKED = 100
 
 def asked(columns, letters, power):
     """The list of the asked tables: all with at most so many rows of INTEGERS from 0 to the power."""
-    _need_bounds(columns, letters, power)
-    return [table for height in range(1, letters + 1) for table in _asked_of(columns, height, power)]
-
-
-def _need_bounds(columns, letters, power):
     need_columns(columns)
     _need_letters(letters)
     _need_power(power)
     if sum([_many_asked(columns, height, power) for height in range(1, letters + 1)]) > MOST_ASKED:
         raise TooMany("tables", MOST_ASKED)
+    return [table for height in range(1, letters + 1) for table in _asked_of(columns, height, power)]
 
 
 def _need_letters(letters):
@@ -63,7 +59,6 @@ def _rows(numbers, columns, height):
 
 def told_back(columns, letters, power, answers):
     """The form, with terms in these bounds, that tells these results of all rows of the asked tables."""
-    _need_bounds(columns, letters, power)
     tables = asked(columns, letters, power)
     if not _are_answers(answers, tables):
         raise InvalidAnswers(answers)

@@ -73,8 +73,8 @@ class MovingTest(Case):
         self.assertIs(type(found), tuple)
         table, row, position = found
         self.assertIsInstance(table, Table)
-        self.assertIs(type(row), list)
-        self.same([table.columns, len(row)], [form.columns, form.columns])
+        self.same([type(number) for number in row], [Ratio] * form.columns)
+        self.same([type(row), table.columns], [list, form.columns])
         self.assertLessEqual(table.height, 39)
         self.assertIs(moves(form, side, table, row, position), True)
         self.assertIs(is_moving(form, side, found), True)

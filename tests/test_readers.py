@@ -358,6 +358,17 @@ class AlikeTest(Case):
                       [((8,), [0, 1]), ((0,), [0, -1])])
         self.assertIs(self.check(high, Reader(1, [], [], [])), False)
 
+    def test_cells_that_take_each_other_away(self):
+        # Behind the row 1 the cells hold 3 and 5: at the row 1 again these come to 0 together.
+        steps = [((1,), [[0, 3, 0], [0, 0, 0], [0, 0, 0]]), ((2,), [[0, 0, 5], [0, 0, 0], [0, 0, 0]])]
+        last = [((1,), [0, 1, 0]), ((2,), [0, 0, Ratio(-3, 5)])]
+        none = Reader(1, [], [], [])
+        self.assertIs(self.check(Reader(1, [1, 0, 0], steps, last), none), False)
+        steps = [(letter, [[0] * 4] + [[0] + row for row in rows]) for letter, rows in steps]
+        steps.append(((0,), [[0, 1, 0, 0]] + [[0] * 4] * 3))
+        last = [(letter, [0] + row) for letter, row in last]
+        self.assertIs(self.check(Reader(1, [1, 0, 0, 0], steps, last), none), False)
+
     def test_nothing_alike(self):
         none = Reader(1, [], [], [])
         for other in (none, Reader(1, [0] * 12, [], [((0,), [1] * 12)]), Reader(1, [1], [((0,), [[1]])], []),

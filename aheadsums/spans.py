@@ -11,11 +11,11 @@ def scaled(numbers):
     for number in numbers:
         below = lcm(below, number.bottom)
     wholes = [number.top * (below // number.bottom) for number in numbers]
-    above = max(_common(wholes), 1)
+    above = max(common_divisor(wholes), 1)
     return Ratio(above, below), [whole // above for whole in wholes]
 
 
-def _common(wholes):
+def common_divisor(wholes):
     """The greatest INTEGER that divides all of them, 0 if all are 0."""
     common = 0
     for whole in wholes:
@@ -44,7 +44,7 @@ def left_over(rows, numbers):
         if left[at] != 0:
             left = [row[at] * number - left[at] * other for number, other in zip(left, row)]
             # Without common divisors the numbers stay as short as they can.
-            common = max(_common(left), 1)
+            common = max(common_divisor(left), 1)
             left = [number // common for number in left]
     return left
 

@@ -47,6 +47,11 @@ def is_table_for(columns, value):
     return isinstance(value, Table) and value.columns == columns
 
 
+def are_tables_for(columns, value):
+    """Whether any value is a list of Tables of so many columns."""
+    return is_list(value) and all([is_table_for(columns, table) for table in value])
+
+
 def is_place(table, value):
     """Whether any value is the position of a row of the table."""
     return is_count(value) and value < table.height

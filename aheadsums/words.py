@@ -138,6 +138,12 @@ def sums_by_word(words, known, height):
     return found
 
 
+def whole_sums(words, rows):
+    """A dict of the sums over all of some rows of Ratios, of some words and of all that they begin with."""
+    sums = sums_by_word(words, worths_by_letter(words, rows), len(rows))
+    return {word: sums[word][-1] for word in sums}
+
+
 def cuts(columns, word):
     """The list of the tuples of two words that make the word, the first one's length rising."""
     need_word(columns, word)

@@ -256,6 +256,54 @@ def worths_of(form, table):
     return [form_at(form, table, at) for at in range(table.height)]
 
 
+def rank_of(rows):
+    """How many rows of Fractions are independent, by plain elimination."""
+    left, rank = [list(row) for row in rows], 0
+    for at in range(len(rows[0]) if rows else 0):
+        found = [row for row in left if row[at] != 0]
+        if found:
+            pivot = found[0]
+            left = [[one - row[at] / pivot[at] * two for one, two in zip(row, pivot)]
+                    for row in left if row is not pivot]
+            rank += 1
+    return rank
+
+
+def determinant_of(rows):
+    """The determinant of a square of Fractions, by plain elimination; that of none is 1."""
+    left, worth = [list(row) for row in rows], Fraction(1)
+    while left:
+        found = [at for at, row in enumerate(left) if row[0] != 0]
+        if not found:
+            return Fraction(0)
+        pivot = left.pop(found[0])
+        worth *= pivot[0] * (-1) ** found[0]
+        left = [[one - row[0] / pivot[0] * two for one, two in zip(row[1:], pivot[1:])] for row in left]
+    return worth
+
+
+def form_at_rows(form, rows, at):
+    """What a form comes to at a row of rows of Fractions, however many there are."""
+    return sum([fraction(factor) * term_at(term, rows, at) for term, factor in form.parts()], Fraction(0))
+
+
+def worth_at_rows(tally, rows):
+    """What a tally comes to on rows of Fractions, however many there are."""
+    return sum([fraction(factor) * sum_over_choices(word, rows) for word, factor in tally.parts()], Fraction(0))
+
+
+def some_forward_form(chance, columns, longest, many=5, power=1):
+    """A form without right words, of a few terms."""
+    return Form(columns, [((some_word(chance, columns, chance.randrange(longest), power),
+                            some_word(chance, columns, 1, power)[0], ()), some_factor(chance))
+                          for _ in range(chance.randrange(many + 1))])
+
+
+def no_readers():
+    """Values that are no Reader."""
+    return odd_values() + [0, Ratio(1), [], (), (1, [1], [], []), Table(1, []), Form(1, [])]
+
+
 class Case(unittest.TestCase):
     """A test case with words for what the document promises."""
 

@@ -6,6 +6,8 @@ import unittest
 from aheadsums.alikes import is_parting, least_unlike, parting, parting_rows
 from aheadsums.errors import InvalidForm, UnlikeColumns
 from aheadsums.forms import Form, form_plus, form_times, form_worths
+from aheadsums.making import form_of
+from aheadsums.programs import Program, results
 from aheadsums.ratios import Ratio
 from aheadsums.tables import Table
 from tests.helping import (Case, all_tables, form_at, letters_of, no_counts, no_forms, no_tables, odd_values, some_form,
@@ -127,6 +129,18 @@ class PartingTest(Case):
 
     def test_what_is_told_is_new(self):
         self.is_new(least_unlike, OWN, BOTH)
+
+    def test_the_example_of_point_56(self):
+        own = Program(1, [("column", 0)])
+        both = Program(1, [("column", 0), ("ahead", 0), ("sum", 0, 1)])
+        self.assertEqual([form_of(own), form_of(both)], [OWN, BOTH])
+        for number in (0, 1, -1, 7, Ratio(-2, 3)):
+            table = Table(1, [[number]])
+            self.assertEqual(results(own, table), results(both, table))
+            self.assertIs(is_parting(OWN, BOTH, (table, 0)), False)
+        table = Table(1, [[1], [0]])
+        self.assertEqual([results(own, table), results(both, table)], [[Ratio(1), Ratio(0)], [Ratio(1), Ratio(1)]])
+        self.same([parting_rows(OWN, BOTH), is_parting(OWN, BOTH, (table, 1))], [2, True])
 
     def test_errors(self):
         for function in FUNCTIONS:

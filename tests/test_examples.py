@@ -88,6 +88,34 @@ EXAMPLES = r'''
 >>> once = Reader(1, [1], [], [((0,), [1])])
 >>> [are_alike(adding, once), reader_parting(adding, adding), is_reader_parting(adding, once, (Table(1, [[0]]), 0)), is_reader_parting(adding, once, reader_parting(adding, once)), is_reader_parting(adding, once, (Table(1, [[1], [5], [0]]), 2))]
 [False, None, True, True, True]
+>>> from aheadsums.fewest import cells_paper, fewest_cells, is_cells_paper, lessened, reader_of, tells
+>>> from aheadsums.forms import Form
+>>> so_far, square = Form(1, [((((1,),), (0,), ()), 1)]), Form(1, [((((1,), (1,)), (0,), ()), 2), ((((2,),), (0,), ()), 1)])
+>>> [tells(adding, so_far), tells(adding, square), fewest_cells(so_far), fewest_cells(square), reader_of(square).cells, tells(reader_of(square), square), fewest_cells(Form(1, [])), lessened(Reader(1, [1, 1], [], [((0,), [2, 3])])).cells]
+[True, False, 2, 3, 3, True, 0, 1]
+>>> [is_cells_paper(so_far, ([Table(1, []), Table(1, [[1]])], [Table(1, [[0]]), Table(1, [[1], [0]])])), is_cells_paper(so_far, ([Table(1, []), Table(1, [])], [Table(1, [[0]]), Table(1, [[1], [0]])])), is_cells_paper(square, cells_paper(square))]
+[True, False, True]
+>>> from aheadsums.sides import is_meeting, meeting, side_numbers
+>>> from aheadsums.tallies import Tally
+>>> both, x = Form(1, [((((1,),), (0,), ((1,),)), 3)]), Tally(1, [(((1,),), 1)])
+>>> [side_numbers(both), side_numbers(square), is_meeting(both, ([x], [x], [((0,), [[3]])])), is_meeting(both, ([x], [x], [((0,), [[1]])])), is_meeting(square, meeting(square)), is_meeting(Form(1, []), meeting(Form(1, [])))]
+[(1, 1), (1, 1), True, False, True, True]
+>>> from aheadsums.pieces import is_piece_paper, joined_numbers, joining, kept_numbers, kept_tallies, piece_paper, whole_numbers
+>>> from aheadsums.ratios import Ratio
+>>> from aheadsums.tables import Table
+>>> from aheadsums.tallies import Tally, tally_worth
+>>> pairs, rows, more = Tally(1, [(((1,), (1,)), 1)]), Table(1, [[2], [3]]), Table(1, [[5]])
+>>> [[one.parts() for one in kept_tallies(pairs)] == [[((), Ratio(1))], [(((1,),), Ratio(1))], [(((1,), (1,)), Ratio(1))]], whole_numbers(pairs) == [Ratio(0), Ratio(0), Ratio(1)], [str(one) for one in kept_numbers(pairs, rows)], kept_tallies(Tally(1, []))]
+[True, True, ['1', '5', '6'], []]
+>>> [[str(one) for one in joined_numbers(pairs, [1, 5, 6], kept_numbers(pairs, more))], [[str(one) for one in row] for row in joining(pairs)[2]], is_piece_paper(pairs, piece_paper(pairs)), is_piece_paper(pairs, ([rows], [(more, more)])), is_piece_paper(pairs, ([], []))]
+[['1', '10', '31'], [['0', '0', '1'], ['0', '1', '0'], ['1', '0', '0']], True, True, True]
+>>> from aheadsums.forms import Form
+>>> from aheadsums.runs import Runs, first_unlike, laid_out, put_changes, run_result, run_worth
+>>> long, sofar = Runs(1, [([2], 10 ** 20), ([Ratio(1, 2)], 2)]), Form(1, [((((1,),), (0,), ()), 1)])
+>>> [long.many(), str(run_worth(pairs, Runs(1, [([1], 10 ** 6)]))), str(run_result(sofar, long, 10 ** 20 + 1)), laid_out(Runs(1, [([2], 1), ([7], 0), ([3], 1)])) == rows]
+[100000000000000000002, '499999500000', '400000000000000000001/2', True]
+>>> [[str(one) for one in put_changes(sofar, rows, 1, [7])], first_unlike(sofar, Form(1, []), [2]), first_unlike(sofar, Form(1, []), [0])]
+[['0', '7'], 2, None]
 '''
 
 

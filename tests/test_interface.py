@@ -35,6 +35,13 @@ FUNCTIONS = {
                 "is_told_by": "tally words"},
     "readers": {"read": "reader table", "are_alike": "reader other", "reader_parting": "reader other",
                 "is_reader_parting": "reader other value"},
+    "fewest": {"reader_of": "form", "fewest_cells": "form", "tells": "reader form", "lessened": "reader",
+               "cells_paper": "form", "is_cells_paper": "form value"},
+    "sides": {"side_numbers": "form", "meeting": "form", "is_meeting": "form value"},
+    "pieces": {"kept_tallies": "tally", "joining": "tally", "whole_numbers": "tally", "kept_numbers": "tally table",
+               "joined_numbers": "tally numbers others", "piece_paper": "tally", "is_piece_paper": "tally value"},
+    "runs": {"run_worth": "tally runs", "run_result": "form runs position", "laid_out": "runs",
+             "first_unlike": "form other row", "put_changes": "form table position row"},
 }
 
 CLASSES = {
@@ -47,6 +54,7 @@ CLASSES = {
     "forms": {"Form": ("columns parts", {"parts": ""}, "columns length", "__eq__")},
     "readers": {"Reader": ("columns start steps last", {"start": "", "steps": "", "last": ""}, "columns cells",
                            "__eq__")},
+    "runs": {"Runs": ("columns lots", {"lots": "", "many": ""}, "columns", "__eq__")},
 }
 
 

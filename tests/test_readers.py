@@ -12,11 +12,11 @@ from aheadsums.ratios import Ratio
 from aheadsums.readers import Reader, are_alike, is_reader_parting, read, reader_parting
 from aheadsums.tables import Table
 from tests.helping import (Case, LikeAll, fraction, fractions, letter_at, letters_of, no_columns, no_counts, no_letters,
-                           no_numbers, no_tables, odd_values, rows_of, some_table)
+                           no_numbers, no_readers, no_tables, odd_values, rows_of, some_table)
 
 ADDING = Reader(1, [1, 0], [((0,), [[1, 0], [0, 1]]), ((1,), [[0, 1], [0, 0]])], [((0,), [0, 1])])
 ONCE = Reader(1, [1], [], [((0,), [1])])
-NO_READERS = odd_values() + [0, Ratio(1), [], (), (1, [1], [], []), Table(1, []), Form(1, [])]
+NO_READERS = no_readers()
 
 
 def results_by_rule(reader, table):

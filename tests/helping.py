@@ -9,6 +9,7 @@ from itertools import combinations, product
 from aheadsums.errors import TooMany
 from aheadsums.forms import Form
 from aheadsums.ratios import Ratio
+from aheadsums.runs import Runs
 from aheadsums.tables import Table
 from aheadsums.tallies import Tally
 
@@ -302,6 +303,20 @@ def some_forward_form(chance, columns, longest, many=5, power=1):
 def no_readers():
     """Values that are no Reader."""
     return odd_values() + [0, Ratio(1), [], (), (1, [1], [], []), Table(1, []), Form(1, [])]
+
+
+def no_runs():
+    """Values that are no Runs."""
+    return odd_values() + [0, Ratio(1), [], (), (1, []), [([2], 1)], Table(1, [[2]]), Form(1, []), Tally(1, [])]
+
+
+def some_runs(chance, columns, most=3):
+    """Runs of a few lots, each of at most so many rows."""
+    lots = []
+    for _ in range(chance.randrange(5)):
+        row = [chance.choice([0, 1, -1, 2, Ratio(1, 2), Ratio(-2, 3)]) for _ in range(columns)]
+        lots.append((row, chance.randrange(most + 1)))
+    return Runs(columns, lots)
 
 
 class Case(unittest.TestCase):

@@ -1,4 +1,4 @@
-"""The examples of the document for the files that have landed, just as they stand there."""
+"""The examples of the document, just as they stand there."""
 
 import doctest
 import unittest
@@ -116,6 +116,31 @@ EXAMPLES = r'''
 [100000000000000000002, '499999500000', '400000000000000000001/2', True]
 >>> [[str(one) for one in put_changes(sofar, rows, 1, [7])], first_unlike(sofar, Form(1, []), [2]), first_unlike(sofar, Form(1, []), [0])]
 [['0', '7'], 2, None]
+>>> from aheadsums.texts import form_text, program_text, table_text, tally_text, word_text
+>>> from aheadsums.forms import Form
+>>> from aheadsums.programs import Program
+>>> from aheadsums.tallies import Tally
+>>> square = Program(1, [("column", 0), ("ahead", 0), ("times", 1, 1)])
+>>> [word_text(2, ((1, 0), (0, 2))), word_text(0, ((),)), word_text(1, ()), table_text(Table(2, [[1, Ratio(-1, 2)]])), table_text(Table(0, [[]])), program_text(square), tally_text(Tally(1, [(((1,), (1,)), 2), ((), Ratio(-1, 2))])), form_text(Form(1, [((((1,),), (0,), ()), 2)]))]
+['(1,0)(0,2)', '()', '-', 'table 2\nrow 1 -1/2', 'table 0\nrow', 'program 1\ncolumn 0\nahead 0\ntimes 1 1', 'tally 1\n-1/2 -\n2 (1)(1)', 'form 1\n2 (1) < (0) > -']
+>>> from aheadsums.parses import read_form, read_program, read_table, read_tally, read_word
+>>> [read_word(1, "(1)(0)"), read_program("program 1\ncolumn 0\nahead 0\ntimes 1 1") == square, read_table("table 1\nrow 6/4").rows() == [[Ratio(3, 2)]], read_tally("tally 1\n1 (1)\n1 (1)").parts() == [(((1,),), Ratio(2))], read_form("form 0\n0 - < () > -").parts()]
+[((1,), (0,)), True, True, True, []]
+>>> from aheadsums.claims import contrary, is_claim, is_paper_of, is_true, paper_of
+>>> before, bare = read_form("form 1\n1 (1) < (0) > -"), read_form("form 1\n1 - < (0) > -")
+>>> [is_true(("alike", before, before)), is_true(("stays", before, "behind")), is_true(("stays", before, "ahead")), is_paper_of(("unlike", before, bare), (Table(1, [[5]]), 0)), is_paper_of(("moves", before, "ahead"), paper_of(("moves", before, "ahead"))), is_claim(("alike", before, read_form("form 0")))]
+[True, True, False, True, True, False]
+>>> [is_true(("orderfree", read_tally("tally 1\n1 (1)(1)"))), contrary(("reads", before, 2))[0], is_true(("reads", before, 2)), is_true(("reads", before, 1))]
+[True, 'needs', True, False]
+>>> from aheadsums.commands import is_command, is_deed
+>>> [is_command("table t 1 2;1/2;3"), is_command("table t 0 -;-"), is_command("put t 1 2/4"), is_command("program p 1 column,0;ahead,0"), is_command("form f 2 (1,0)(0,1)<(0,0)>-:1/2"), is_command("tally w 0 ()():1"), is_deed("sum p t"), is_command("claim k stays f own"), is_deed("claim k reads f 3")]
+[True, True, False, True, True, True, False, False, True]
+>>> from aheadsums.desk import Desk
+>>> desk = Desk()
+>>> desk.do_all("table t 1 2;1/2;3", "program p 1 column,0;ahead,0;times,1,1", "results p t", "make f p", "show f", "form g 1 (1)(1)<(0)>-:2", "claim k unlike f g", "parts f g", "cells f", "swap t 0", "show t")
+['-', '-', '0,4,25/4', '-', '1 (1)(1)<(0)>-:2;(2)<(0)>-:1', '-', 'k true', '2', '3', '-', '1 1/2;2;3']
+>>> desk.do_all("form h 1 (2)<(0)>-:1", "plus e g h", "same e f", "drop g", "copy g f", "states", "undo", "undo", "total w h", "show w", "free w")
+['-', '-', 'yes', 'k gone', 'k false', 'k false', 'copy g f', 'drop g', '-', '1 (2)(0):1', 'no']
 '''
 
 

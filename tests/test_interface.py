@@ -42,6 +42,14 @@ FUNCTIONS = {
                "joined_numbers": "tally numbers others", "piece_paper": "tally", "is_piece_paper": "tally value"},
     "runs": {"run_worth": "tally runs", "run_result": "form runs position", "laid_out": "runs",
              "first_unlike": "form other row", "put_changes": "form table position row"},
+    "texts": {"word_text": "columns word", "table_text": "table", "program_text": "program", "tally_text": "tally",
+              "form_text": "form", "runs_text": "runs"},
+    "parses": {"read_word": "columns text", "read_table": "text", "read_program": "text", "read_tally": "text",
+               "read_form": "text", "read_runs": "text"},
+    "claims": {"claim_words": "", "is_claim": "value", "is_true": "claim", "contrary": "claim", "paper_of": "claim",
+               "is_paper_of": "claim value"},
+    "commands": {"is_name": "value", "is_command": "value", "is_deed": "value"},
+    "desk": {"tried": "desk action"},
 }
 
 CLASSES = {
@@ -55,6 +63,10 @@ CLASSES = {
     "readers": {"Reader": ("columns start steps last", {"start": "", "steps": "", "last": ""}, "columns cells",
                            "__eq__")},
     "runs": {"Runs": ("columns lots", {"lots": "", "many": ""}, "columns", "__eq__")},
+    "desk": {"Desk": ("", {"claim_of": "label", "do": "command", "do_all": "commands", "attempt": "commands",
+                           "attach": "label paper", "fits": "label", "lines": "", "copy": "", "again": "lines"},
+                      "names labels", "__len__ __getitem__ __contains__ __call__"),
+             "Trial": ("desk", {}, "", "__enter__ __exit__")},
 }
 
 
@@ -94,8 +106,15 @@ class InterfaceTest(unittest.TestCase):
         made = inspect.signature(file_of("ratios").Ratio).parameters
         self.assertEqual([made["top"].default, made["bottom"].default], [inspect.Parameter.empty, 1])
 
-    def test_total_is_a_class_method(self):
+    def test_class_methods(self):
         self.assertIsInstance(vars(file_of("ratios").Ratio)["total"], classmethod)
+        self.assertIsInstance(vars(file_of("desk").Desk)["again"], classmethod)
+
+    def test_properties(self):
+        for name, classes in CLASSES.items():
+            for made, (told, methods, properties, operators) in classes.items():
+                for one in properties.split():
+                    self.assertIsInstance(vars(getattr(file_of(name), made))[one], property)
 
 
 if __name__ == "__main__":

@@ -12,26 +12,14 @@ from aheadsums.ratios import Ratio
 from aheadsums.runs import Runs, first_unlike, laid_out, put_changes, run_result, run_worth
 from aheadsums.tables import Table, with_row
 from aheadsums.tallies import Tally, tally_worth
-from tests.helping import (Case, LikeAll, form_at_rows, fractions, no_columns, no_counts, no_forms,
-                           no_numbers, no_tables, no_tallies, odd_values, rows_of, some_form, some_table, some_tally,
+from tests.helping import (Case, LikeAll, form_at_rows, fractions, no_columns, no_counts, no_forms, no_numbers, no_runs,
+                           no_tables, no_tallies, odd_values, rows_of, some_form, some_runs, some_table, some_tally,
                            some_term, worth_at_rows)
 
 PAIRS = Tally(1, [(((1,), (1,)), 1)])
 SO_FAR = Form(1, [((((1,),), (0,), ()), 1)])
 LONG = Runs(1, [([2], 10 ** 20), ([Ratio(1, 2)], 2)])
 ROWS = Table(1, [[2], [3]])
-
-
-def no_runs():
-    return odd_values() + [0, Ratio(1), [], (), (1, []), [([2], 1)], Table(1, [[2]]), Form(1, []), Tally(1, [])]
-
-
-def some_runs(chance, columns, most=3):
-    lots = []
-    for _ in range(chance.randrange(5)):
-        row = [chance.choice([0, 1, -1, 2, Ratio(1, 2), Ratio(-2, 3)]) for _ in range(columns)]
-        lots.append((row, chance.randrange(most + 1)))
-    return Runs(columns, lots)
 
 
 def rows_by_rule(runs):

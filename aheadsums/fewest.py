@@ -143,13 +143,16 @@ def _reached(starts, steps, lasts):
 def _all_reached(starts, steps):
     """Vectors by cell, of which all that the cells can hold behind some rows are sums of multiples."""
     rows = {}
-    waiting = [vector_of(dict(enumerate(start))) for start in starts]
-    while waiting:
-        left = rest_of(rows, waiting.pop())
+    reached = [vector_of(dict(enumerate(start))) for start in starts]
+    at = 0
+    # When there are as many rows as cells, whatever is reached is a sum of multiples of them.
+    while at < len(reached) and len(rows) < len(starts[0]):
+        left = rest_of(rows, reached[at])
         if left:
             rows[min(left)] = left
             for letter, lists in steps:
-                waiting.append(vector_of({at: _led(left, lists, at) for at in range(len(lists))}))
+                reached.append(vector_of({cell: _led(left, lists, cell) for cell in range(len(lists))}))
+        at = at + 1
     return list(rows.values())
 
 
